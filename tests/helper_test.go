@@ -1,0 +1,138 @@
+package tests
+
+import (
+	"slices"
+	"testing"
+
+	"loop.example/cellcollector/impl"
+)
+
+// spare stands in the memory beyond the length of the slices of roomyHeap.
+const spare = 77
+
+func mustParse(t *testing.T, text string) impl.Heap {
+	t.Helper()
+	h, ok := impl.ParseHeap(text)
+	if !ok {
+		t.Fatalf("ParseHeap(%q) returns false", text)
+	}
+	return h
+}
+
+func cloneHeap(h impl.Heap) impl.Heap {
+	return impl.Heap{Left: slices.Clone(h.Left), Right: slices.Clone(h.Right), Roots: slices.Clone(h.Roots)}
+}
+
+func isZeroHeap(h impl.Heap) bool {
+	return len(h.Left) == 0 && len(h.Right) == 0 && len(h.Roots) == 0
+}
+
+func equalHeaps(a, b impl.Heap) bool {
+	return slices.Equal(a.Left, b.Left) && slices.Equal(a.Right, b.Right) && slices.Equal(a.Roots, b.Roots)
+}
+
+// roomy returns the list with unused capacity, which is filled with spare.
+func roomy(list []int) []int {
+	out := make([]int, len(list), len(list)+4)
+	copy(out, list)
+	rest := out[len(list):cap(out)]
+	for i := range rest {
+		rest[i] = spare
+	}
+	return out
+}
+
+func roomyHeap(h impl.Heap) impl.Heap {
+	return impl.Heap{Left: roomy(h.Left), Right: roomy(h.Right), Roots: roomy(h.Roots)}
+}
+
+// isRoomyOf reports whether a roomy list is still as roomy made it of want.
+func isRoomyOf(list, want []int) bool {
+	return slices.Equal(list[:cap(list)], roomy(want)[:len(want)+4])
+}
+
+func isRoomyHeapOf(h, want impl.Heap) bool {
+	return isRoomyOf(h.Left, want.Left) && isRoomyOf(h.Right, want.Right) && isRoomyOf(h.Roots, want.Roots)
+}
+
+// overwrite writes over all memory of a list, its unused capacity included.
+func overwrite(list []int, value int) {
+	list = list[:cap(list)]
+	for i := range list {
+		list[i] = value
+	}
+}
+
+func all(list []int, value int) bool {
+	for _, x := range list {
+		if x != value {
+			return false
+		}
+	}
+	return true
+}
+
+// checkOwnMemory writes over each slice of a heap and sees whether another one changes with it.
+func checkOwnMemory(t *testing.T, what string, h impl.Heap) {
+	t.Helper()
+	lists := [][]int{h.Left, h.Right, h.Roots}
+	for i, list := range lists {
+		overwrite(list, 100+i)
+	}
+	for i, list := range lists {
+		if !all(list[:cap(list)], 100+i) {
+			t.Errorf("%s: slices of the result share memory", what)
+		}
+	}
+}
+
+// someHeaps returns valid heaps: of one cell, with cells that point to themselves, with roots
+// that point to nothing, and of the greatest size.
+func someHeaps(t *testing.T) []impl.Heap {
+	t.Helper()
+	var heaps []impl.Heap
+	for _, text := range []string{
+		"-- / -", "00 / 0", "0- / -", "-0 / 0 - 0",
+		"-- -- / -", "1- -0 / 1", "01 11 / - 1",
+		"1- -- 0- / 0", "-- 2- -0 / 1", "12 2- -- / - 2 -",
+		"1- 2- 3- 4- 5- 6- 7- -0 / 7", "77 66 55 44 33 22 11 00 / 7 0 3", "-- -- -- -- -- -- -- -- / - - -",
+	} {
+		heaps = append(heaps, mustParse(t, text))
+	}
+	return heaps
+}
+
+// badHeaps returns heaps that are not valid, each for one reason.
+func badHeaps() map[string]impl.Heap {
+	return map[string]impl.Heap{
+		"zero value":                {},
+		"no cells":                  {Left: []int{}, Right: []int{}, Roots: []int{-1}},
+		"no roots":                  {Left: []int{-1}, Right: []int{-1}},
+		"no left pointers":          {Right: []int{-1}, Roots: []int{-1}},
+		"no right pointers":         {Left: []int{-1}, Roots: []int{-1}},
+		"a right pointer too few":   {Left: []int{-1, -1}, Right: []int{-1}, Roots: []int{-1}},
+		"a right pointer too many":  {Left: []int{-1, -1}, Right: []int{-1, -1, -1}, Roots: []int{-1}},
+		"nine cells":                {Left: nones(9), Right: nones(9), Roots: nones(1)},
+		"nine left pointers":        {Left: nones(9), Right: nones(8), Roots: nones(1)},
+		"four roots":                {Left: nones(2), Right: nones(2), Roots: nones(4)},
+		"left past the end":         {Left: []int{-1, 2}, Right: []int{-1, -1}, Roots: []int{-1}},
+		"right past the end":        {Left: []int{-1, -1}, Right: []int{2, -1}, Roots: []int{-1}},
+		"root past the end":         {Left: []int{-1, -1}, Right: []int{-1, -1}, Roots: []int{0, 2}},
+		"left less than None":       {Left: []int{-2}, Right: []int{-1}, Roots: []int{-1}},
+		"right less than None":      {Left: []int{-1}, Right: []int{-2}, Roots: []int{-1}},
+		"root less than None":       {Left: []int{-1}, Right: []int{-1}, Roots: []int{-2}},
+		"left past all cells":       {Left: append(nones(7), 8), Right: nones(8), Roots: nones(3)},
+		"right past all cells":      {Left: nones(8), Right: append(nones(7), 8), Roots: nones(3)},
+		"root past all cells":       {Left: nones(8), Right: nones(8), Roots: append(nones(2), 8)},
+		"the greatest left pointer": {Left: []int{int(^uint(0) >> 1)}, Right: nones(1), Roots: nones(1)},
+		"the least root":            {Left: nones(1), Right: nones(1), Roots: []int{-int(^uint(0)>>1) - 1}},
+	}
+}
+
+func nones(count int) []int {
+	list := make([]int, count)
+	for i := range list {
+		list[i] = -1
+	}
+	return list
+}
