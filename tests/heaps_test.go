@@ -3,7 +3,6 @@ package tests
 import (
 	"math"
 	"regexp"
-	"slices"
 	"strings"
 	"testing"
 
@@ -227,13 +226,7 @@ func TestRoundTrip(t *testing.T) {
 	count := 0
 	for cells := 1; cells <= 2; cells++ {
 		for roots := 1; roots <= 3; roots++ {
-			pointers := nones(2*cells + roots)
-			for more := true; more; more = nextPointers(pointers, cells) {
-				h := impl.Heap{
-					Left:  slices.Clone(pointers[:cells]),
-					Right: slices.Clone(pointers[cells : 2*cells]),
-					Roots: slices.Clone(pointers[2*cells:]),
-				}
+			everyHeap(cells, roots, func(h impl.Heap) {
 				text := impl.FormatHeap(h)
 				got, ok := impl.ParseHeap(text)
 				if !ok || !equalHeaps(got, h) {
@@ -241,23 +234,12 @@ func TestRoundTrip(t *testing.T) {
 				}
 				texts[text] = true
 				count++
-			}
+			})
 		}
 	}
 	if len(texts) != count {
 		t.Errorf("%d heaps have %d texts", count, len(texts))
 	}
-}
-
-// nextPointers counts on, with the pointers as digits; false after the last.
-func nextPointers(pointers []int, cells int) bool {
-	for i := range pointers {
-		if pointers[i]++; pointers[i] < cells {
-			return true
-		}
-		pointers[i] = -1
-	}
-	return false
 }
 
 var heapForm = regexp.MustCompile(`\A((?:[-0-7]{2} ){1,8})/((?: [-0-7]){1,3})\z`)
@@ -355,11 +337,7 @@ func TestParseOwnMemory(t *testing.T) {
 
 // TestReadersChangeNothing holds for the functions that return no heap.
 func TestReadersChangeNothing(t *testing.T) {
-	heaps := badHeaps()
-	for _, h := range someHeaps(t) {
-		heaps[impl.FormatHeap(h)] = h
-	}
-	for what, h := range heaps {
+	for what, h := range goodAndBadHeaps(t) {
 		argument := roomyHeap(h)
 		impl.HeapValid(argument)
 		impl.HeapSame(argument, argument)

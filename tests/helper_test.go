@@ -1,6 +1,7 @@
 package tests
 
 import (
+	"math/rand/v2"
 	"slices"
 	"testing"
 
@@ -129,10 +130,65 @@ func badHeaps() map[string]impl.Heap {
 	}
 }
 
+// goodAndBadHeaps returns the heaps of someHeaps and of badHeaps, with a name for each.
+func goodAndBadHeaps(t *testing.T) map[string]impl.Heap {
+	t.Helper()
+	heaps := badHeaps()
+	for _, h := range someHeaps(t) {
+		heaps[impl.FormatHeap(h)] = h
+	}
+	return heaps
+}
+
 func nones(count int) []int {
 	list := make([]int, count)
 	for i := range list {
 		list[i] = -1
 	}
 	return list
+}
+
+// everyHeap calls see with each heap of so many cells and roots.
+func everyHeap(cells, roots int, see func(impl.Heap)) {
+	pointers := nones(2*cells + roots)
+	for more := true; more; more = nextPointers(pointers, cells) {
+		see(heapOf(pointers, cells))
+	}
+}
+
+func heapOf(pointers []int, cells int) impl.Heap {
+	return impl.Heap{
+		Left:  slices.Clone(pointers[:cells]),
+		Right: slices.Clone(pointers[cells : 2*cells]),
+		Roots: slices.Clone(pointers[2*cells:]),
+	}
+}
+
+// nextPointers counts on, with the pointers as digits; false after the last.
+func nextPointers(pointers []int, cells int) bool {
+	for i := range pointers {
+		if pointers[i]++; pointers[i] < cells {
+			return true
+		}
+		pointers[i] = -1
+	}
+	return false
+}
+
+// mixedHeaps returns so many heaps of all sizes, with few and with many pointers, the same in each run.
+func mixedHeaps(count int) []impl.Heap {
+	random := rand.New(rand.NewPCG(1, 2))
+	heaps := make([]impl.Heap, count)
+	for i := range heaps {
+		cells := 1 + random.IntN(8)
+		pointers := nones(2*cells + 1 + random.IntN(3))
+		few := random.IntN(4)
+		for at := range pointers {
+			if random.IntN(4) >= few {
+				pointers[at] = random.IntN(cells)
+			}
+		}
+		heaps[i] = heapOf(pointers, cells)
+	}
+	return heaps
 }
