@@ -30,7 +30,7 @@ func TestNewHeap(t *testing.T) {
 			if !ok || !equalHeaps(h, want) || !impl.HeapValid(h) {
 				t.Errorf("NewHeap(%d, %d) = %v, %v", cells, roots, h, ok)
 			}
-			checkOwnMemory(t, "NewHeap", h)
+			checkOwnMemory(t, "NewHeap", heapLists(h)...)
 		}
 	}
 }
@@ -168,7 +168,7 @@ func TestPutOwnMemory(t *testing.T) {
 			if !ok {
 				t.Fatalf("%s(%v, 0, 0) returns false", p.name, h)
 			}
-			checkOwnMemory(t, p.name, got)
+			checkOwnMemory(t, p.name, heapLists(got)...)
 			if !isRoomyHeapOf(argument, h) {
 				t.Errorf("%s(%v, 0, 0) changes its argument, or shares memory with it", p.name, h)
 			}
@@ -328,7 +328,7 @@ func TestParseOwnMemory(t *testing.T) {
 	for _, h := range someHeaps(t) {
 		text := impl.FormatHeap(h)
 		first := mustParse(t, text)
-		checkOwnMemory(t, "ParseHeap", first)
+		checkOwnMemory(t, "ParseHeap", heapLists(first)...)
 		if second := mustParse(t, text); !equalHeaps(second, h) {
 			t.Errorf("ParseHeap(%q) shares memory from call to call", text)
 		}

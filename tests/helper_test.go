@@ -73,18 +73,21 @@ func all(list []int, value int) bool {
 	return true
 }
 
-// checkOwnMemory writes over each slice of a heap and sees whether another one changes with it.
-func checkOwnMemory(t *testing.T, what string, h impl.Heap) {
+// checkOwnMemory writes over each slice of some results and sees whether another one changes with it.
+func checkOwnMemory(t *testing.T, what string, lists ...[]int) {
 	t.Helper()
-	lists := [][]int{h.Left, h.Right, h.Roots}
 	for i, list := range lists {
 		overwrite(list, 100+i)
 	}
 	for i, list := range lists {
 		if !all(list[:cap(list)], 100+i) {
-			t.Errorf("%s: slices of the result share memory", what)
+			t.Errorf("%s: slices of results share memory", what)
 		}
 	}
+}
+
+func heapLists(h impl.Heap) [][]int {
+	return [][]int{h.Left, h.Right, h.Roots}
 }
 
 // someHeaps returns valid heaps: of one cell, with cells that point to themselves, with roots

@@ -340,14 +340,7 @@ func TestReachChangesNothing(t *testing.T) {
 		for i := range live {
 			live[i] = !live[i]
 		}
-		for i, list := range lists {
-			overwrite(list, 100+i)
-		}
-		for i, list := range lists {
-			if !all(list[:cap(list)], 100+i) {
-				t.Errorf("%s: two results share memory", what)
-			}
-		}
+		checkOwnMemory(t, what, lists...)
 		if !isRoomyHeapOf(argument, h) {
 			t.Errorf("%s: a function changes its argument, or shares memory with it", what)
 		}
