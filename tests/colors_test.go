@@ -379,10 +379,7 @@ func TestColoredSame(t *testing.T) {
 	one := func() impl.Colored {
 		return impl.Colored{Heap: impl.Heap{Left: []int{1, -1}, Right: []int{-1, 0}, Roots: []int{0}}, Color: []int{2, 0}}
 	}
-	if !impl.ColoredSame(one(), one()) {
-		t.Error("ColoredSame of equal values = false")
-	}
-	for field, change := range map[string]func(c *impl.Colored){
+	checkSame(t, "ColoredSame", impl.ColoredSame, one, map[string]func(c *impl.Colored){
 		"a left pointer":   func(c *impl.Colored) { c.Heap.Left[0] = 0 },
 		"a right pointer":  func(c *impl.Colored) { c.Heap.Right[1] = 1 },
 		"a root":           func(c *impl.Colored) { c.Heap.Roots[0] = 1 },
@@ -396,18 +393,7 @@ func TestColoredSame(t *testing.T) {
 		"everything":       func(c *impl.Colored) { *c = impl.Colored{} },
 		"an invalid heap":  func(c *impl.Colored) { c.Heap.Left[0] = 9 },
 		"no heap any more": func(c *impl.Colored) { c.Heap = impl.Heap{} },
-	} {
-		c := one()
-		change(&c)
-		if impl.ColoredSame(c, one()) || impl.ColoredSame(one(), c) {
-			t.Errorf("ColoredSame = true, though they differ by %s", field)
-		}
-		same := one()
-		change(&same)
-		if !impl.ColoredSame(c, same) {
-			t.Errorf("ColoredSame = false after the same change, %s", field)
-		}
-	}
+	})
 	empty := impl.Colored{Heap: impl.Heap{Left: []int{}, Right: []int{}, Roots: []int{}}, Color: []int{}}
 	if !impl.ColoredSame(empty, impl.Colored{}) || !impl.ColoredSame(impl.Colored{}, empty) {
 		t.Error("ColoredSame tells empty slices from nil ones")

@@ -143,6 +143,26 @@ func goodAndBadHeaps(t *testing.T) map[string]impl.Heap {
 	return heaps
 }
 
+// checkSame checks a function that reports whether two values are equal: on two values that one
+// returns, on one of them that is changed, and on two with the same change.
+func checkSame[T any](t *testing.T, name string, same func(a, b T) bool, one func() T, changes map[string]func(*T)) {
+	t.Helper()
+	if !same(one(), one()) {
+		t.Errorf("%s of equal values = false", name)
+	}
+	for what, change := range changes {
+		a, b := one(), one()
+		change(&a)
+		if same(a, b) || same(b, a) {
+			t.Errorf("%s = true, though the values differ by %s", name, what)
+		}
+		change(&b)
+		if !same(a, b) {
+			t.Errorf("%s = false after the same change, %s", name, what)
+		}
+	}
+}
+
 func nones(count int) []int {
 	list := make([]int, count)
 	for i := range list {
