@@ -57,14 +57,14 @@ func isRoomyHeapOf(h, want impl.Heap) bool {
 }
 
 // overwrite writes over all memory of a list, its unused capacity included.
-func overwrite(list []int, value int) {
+func overwrite[T any](list []T, value T) {
 	list = list[:cap(list)]
 	for i := range list {
 		list[i] = value
 	}
 }
 
-func all(list []int, value int) bool {
+func all[T comparable](list []T, value T) bool {
 	for _, x := range list {
 		if x != value {
 			return false
@@ -76,11 +76,17 @@ func all(list []int, value int) bool {
 // checkOwnMemory writes over each slice of some results and sees whether another one changes with it.
 func checkOwnMemory(t *testing.T, what string, lists ...[]int) {
 	t.Helper()
+	checkOwn(t, what, func(i int) int { return 100 + i }, lists)
+}
+
+// checkOwn writes different values over the lists.
+func checkOwn[T comparable](t *testing.T, what string, value func(i int) T, lists [][]T) {
+	t.Helper()
 	for i, list := range lists {
-		overwrite(list, 100+i)
+		overwrite(list, value(i))
 	}
 	for i, list := range lists {
-		if !all(list[:cap(list)], 100+i) {
+		if !all(list[:cap(list)], value(i)) {
 			t.Errorf("%s: slices of results share memory", what)
 		}
 	}

@@ -119,6 +119,18 @@ func gcMark(s impl.Store, color []int) impl.Gc {
 	return gc(3, 0, color...)
 }
 
+func marking(g impl.Gc) bool {
+	return g.Phase == 1 || g.Phase == 2
+}
+
+// newColor is the color that the document's ColorNew gives a cell.
+func newColor(g impl.Gc, cell int) int {
+	if marking(g) || g.Phase == 3 && cell >= g.At {
+		return 2
+	}
+	return 0
+}
+
 // gcRun is the document's RunGc, for a valid collector.
 func gcRun(s impl.Store, g impl.Gc) (impl.Store, impl.Gc, int, bool) {
 	for steps := 1; ; steps++ {
@@ -162,18 +174,14 @@ func checkGc(t *testing.T, s impl.Store, g impl.Gc) {
 
 func checkGcColors(t *testing.T, s impl.Store, g impl.Gc) {
 	t.Helper()
-	marks := g.Phase == 1 || g.Phase == 2
 	for cell := range g.Color {
 		want := gc(g.Phase, g.At, slices.Clone(g.Color)...)
-		want.Color[cell] = 0
-		if marks || g.Phase == 3 && cell >= g.At {
-			want.Color[cell] = 2
-		}
+		want.Color[cell] = newColor(g, cell)
 		if got, ok := impl.ColorNew(s, g, cell); !ok || !equalGc(got, want) {
 			t.Fatalf("%v, %v: ColorNew(%d) = %v, %v", s, g, cell, got, ok)
 		}
 		want.Color[cell] = g.Color[cell]
-		if marks {
+		if marking(g) {
 			shadeIn(want.Color, cell)
 		}
 		if got, ok := impl.ShadeGc(s, g, cell); !ok || !equalGc(got, want) {
